@@ -30,15 +30,31 @@ def after_steps(steps, chairs, red):
 
 def after_rounds(plan, chairs, red, rounds):
     """Return how many chairs the red room has after rounds of a plan, and how many they carry in all."""
+    few = few_rounds(rounds)
+    red, total = after_steps(plan.steps * few, chairs, red)
+    if few < rounds:
+        red, carried = after_steps(plan.steps * 2, chairs, red)
+        total += (rounds - few) // 2 * carried
+    return red, total
+
+
+def few_rounds(rounds):
+    """Return a number of rounds up to 3 that leave the chairs where so many rounds leave them."""
     # Two rounds together turn an even number of times. So they bring the number
     # of chairs in a room into a range, or to one number, and doing them again
     # leaves it there: all later pairs of rounds are alike and end as they begin.
-    pairs = max(0, rounds - 2) // 2
-    total = 0
-    for done in range(rounds - 2 * pairs):
-        red, carried = after_steps(plan.steps, chairs, red)
-        total += carried
-    if pairs > 0:
-        red, carried = after_steps(plan.steps + plan.steps, chairs, red)
-        total += pairs * carried
-    return red, total
+    return rounds if rounds < 2 else 2 + rounds % 2
+
+
+def first_rooms(steps):
+    """Return the room of each meeting by the signs as they hang at first, and None for each turn."""
+    rooms = []
+    turned = False
+    for step in steps:
+        if step == TURN:
+            turned = not turned
+            rooms.append(None)
+        else:
+            is_red = (step[0] == "red") != turned
+            rooms.append("red" if is_red else "blue")
+    return rooms

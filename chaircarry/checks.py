@@ -21,3 +21,9 @@ def check_house(plan, chairs):
     for index, step in enumerate(plan.steps):
         if len(step) == 2 and step[1] > chairs:
             raise TooFewChairs(index=index)
+
+
+def check_start(plan, chairs, start):
+    """Raise the errors of `check_house`, and InvalidNumber unless the red room may have so many chairs at first."""
+    check_house(plan, chairs)
+    check_number(start, 0, chairs)

@@ -1,7 +1,7 @@
 """What a plan does: what it carries in many rounds, and its effect on all starts."""
 
 from chaircarry.carrying import after_rounds, after_step, after_steps
-from chaircarry.checks import check_house, check_number
+from chaircarry.checks import check_house, check_number, check_start
 from chaircarry.errors import InvalidNumber
 from chaircarry.plans import TURN
 
@@ -22,16 +22,14 @@ def red_chairs(plan, chairs, start, rounds):
 
 def checked_rounds(plan, chairs, start, rounds):
     """Return what `after_rounds` returns, if the numbers are allowed."""
-    check_house(plan, chairs)
-    check_number(start, 0, chairs)
+    check_start(plan, chairs, start)
     check_number(rounds, 0, MAX_ROUNDS)
     return after_rounds(plan, chairs, start, rounds)
 
 
 def carryings(plan, chairs, start, first, last):
     """Yield how many chairs are carried in each step from a first to a last one, numbered from 1."""
-    check_house(plan, chairs)
-    check_number(start, 0, chairs)
+    check_start(plan, chairs, start)
     check_span(plan, first, last)
     many = len(plan.steps)
     rounds, skipped = divmod(first - 1, many)
@@ -55,8 +53,13 @@ def check_span(plan, first, last):
 def summary(plan, chairs):
     """Return the tuple (low, high, extra, goal, turned) that tells what a plan does to all starts."""
     check_house(plan, chairs)
+    return effect_of(plan.steps, chairs)
+
+
+def effect_of(steps, chairs):
+    """Return what `summary` returns, for any number of steps."""
     low, high, extra, goal, turned = 0, chairs, 0, None, False
-    for step in plan.steps:
+    for step in steps:
         if step == TURN:
             turned = not turned
             continue

@@ -1,6 +1,8 @@
 """A slow, separate account of the document's rules, which the tests compare the program with."""
 
+import itertools
 import random
+from fractions import Fraction
 
 from chaircarry.plans import Plan
 
@@ -52,6 +54,29 @@ def end_at_first_place(plan, chairs, start):
     return rooms.held[0]
 
 
+def places(plan):
+    """Return the place of each meeting of one round, and None for each turn."""
+    rooms = Rooms(0, 0)
+    found = []
+    for step in plan.steps:
+        if step[0] == "turn":
+            rooms.do(step)
+        found.append(rooms.place[step[0]] if len(step) == 2 else None)
+    return found
+
+
+def carried_in_the_long_run(plan, chairs, start):
+    """Return how many chairs a round carries on average, once the rooms are as they were after an earlier round."""
+    rooms = Rooms(chairs, start)
+    seen = {}
+    totals = [0]
+    while (state := (*rooms.held, rooms.place["red"])) not in seen:
+        seen[state] = len(totals) - 1
+        totals.append(totals[-1] + sum([rooms.do(step) for step in plan.steps]))
+    first = seen[state]
+    return Fraction(totals[-1] - totals[first], len(totals) - 1 - first)
+
+
 def random_step(source, chairs):
     kind = source.randrange(5)
     if kind == 0:
@@ -62,6 +87,14 @@ def random_step(source, chairs):
 
 def random_plan(source, chairs, most=8, least=0):
     return Plan(*[random_step(source, chairs) for number in range(source.randint(least, most))])
+
+
+def all_plans(chairs, most):
+    """Yield all plans of at most so many steps that a house can use."""
+    steps = [("turn",)] + [(room, need) for room in ("red", "blue") for need in range(chairs + 1)]
+    for many in range(most + 1):
+        for chosen in itertools.product(steps, repeat=many):
+            yield Plan(*chosen)
 
 
 def fixed_source(seed):

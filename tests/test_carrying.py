@@ -1,104 +1,15 @@
-"""Points 3 and 4, and the first sentence of point 6: what a plan carries in rounds and in steps."""
+"""Point 4, and the first sentence of point 6: what a plan carries in rounds and in steps."""
 
 import inspect
 import unittest
 
-from chaircarry import effects
-from chaircarry.effects import carryings, first_difference, red_chairs, summary, total_carried
+from chaircarry.effects import carryings, red_chairs, total_carried
 from chaircarry.errors import InvalidNumber, TooFewChairs
 from chaircarry.plans import Plan
 from tests.simulation import fixed_source, outcome, random_plan, simulate
 
 TURN = ("turn",)
 MOST = 10 ** 18
-
-# Each function with a plan and chairs, called so that nothing else is wrong.
-WITH_START = {
-    "total_carried": lambda plan, chairs, start: total_carried(plan, chairs, start, 1),
-    "red_chairs": lambda plan, chairs, start: red_chairs(plan, chairs, start, 1),
-    "carryings": lambda plan, chairs, start: list(carryings(plan, chairs, start, 1, 1)),
-}
-WITHOUT_START = {
-    "summary": summary,
-    "first_difference": lambda plan, chairs: first_difference(plan, plan, chairs),
-}
-ALL = {
-    **{name: (lambda plan, chairs, call=call: call(plan, chairs, 0)) for name, call in WITH_START.items()},
-    **WITHOUT_START,
-}
-
-
-class HouseErrors(unittest.TestCase):
-    def assert_too_few(self, index, call, *arguments):
-        with self.assertRaises(TooFewChairs) as caught:
-            call(*arguments)
-        self.assertEqual(caught.exception.index, index)
-
-    def test_functions_are_defined_in_effects(self):
-        for name in [*WITH_START, *WITHOUT_START]:
-            self.assertEqual(getattr(effects, name).__module__, "chaircarry.effects")
-        self.assertTrue(inspect.isgeneratorfunction(carryings))
-
-    def test_parameter_names(self):
-        plan = Plan(("red", 6), ("blue", 7))
-        self.assertEqual(total_carried(plan=plan, chairs=10, start=8, rounds=1), 5)
-        self.assertEqual(red_chairs(plan=plan, chairs=10, start=8, rounds=1), 3)
-        self.assertEqual(list(carryings(plan=plan, chairs=10, start=8, first=1, last=2)), [0, 5])
-        self.assertEqual(summary(plan=plan, chairs=10), (6, 6, 3, 3, False))
-        self.assertIsNone(first_difference(plan=plan, other=plan, chairs=10))
-
-    def test_chairs_out_of_range(self):
-        for name, call in ALL.items():
-            for chairs in (-1, MOST + 1, -MOST, True, False):
-                for plan in (Plan(("red", 0)), Plan(TURN), Plan(("red", 6), ("blue", MOST))):
-                    with self.subTest(name=name, chairs=chairs), self.assertRaises(InvalidNumber):
-                        call(plan, chairs)
-
-    def test_chairs_at_their_limits(self):
-        for name, call in ALL.items():
-            with self.subTest(name=name):
-                call(Plan(("red", 0)), 0)
-                call(Plan(("red", 1)), 1)
-                call(Plan(("red", MOST - 1)), MOST - 1)
-                call(Plan(("red", MOST), ("blue", MOST)), MOST)
-
-    def test_too_few_chairs(self):
-        for name, call in ALL.items():
-            with self.subTest(name=name):
-                self.assert_too_few(0, call, Plan(("red", 1)), 0)
-                self.assert_too_few(0, call, Plan(("blue", 1)), 0)
-                self.assert_too_few(1, call, Plan(("red", 6), ("blue", 7)), 6)
-                self.assert_too_few(2, call, Plan(("red", 6), TURN, ("blue", 7), ("red", 9)), 6)
-                self.assert_too_few(59, call, Plan(*[TURN] * 59, ("red", MOST)), MOST - 1)
-                call(Plan(("red", 6), ("blue", 7)), 7)
-
-    def test_start_out_of_range(self):
-        for name, call in WITH_START.items():
-            for chairs, start in ((10, -1), (10, 11), (0, -1), (0, 1), (MOST, MOST + 1), (10, True), (10, False)):
-                with self.subTest(name=name, start=start), self.assertRaises(InvalidNumber):
-                    call(Plan(("red", 0)), chairs, start)
-
-    def test_start_at_its_limits(self):
-        for name, call in WITH_START.items():
-            for chairs, start in ((10, 0), (10, 1), (10, 9), (10, 10), (0, 0), (MOST, 0), (MOST, MOST - 1), (MOST, MOST)):
-                with self.subTest(name=name, start=start):
-                    call(Plan(("red", 0)), chairs, start)
-
-    def test_order_of_errors(self):
-        plan = Plan(("red", 1), ("blue", 7))
-        for name, call in WITH_START.items():
-            with self.subTest(name=name):
-                with self.assertRaises(InvalidNumber):
-                    call(plan, -1, -1)
-                self.assert_too_few(1, call, plan, 6, 7)
-                self.assert_too_few(1, call, plan, 6, -1)
-                self.assert_too_few(1, call, plan, 6, True)
-
-    def test_numbers_are_judged_after_the_house(self):
-        plan = Plan(("red", 1), ("blue", 7))
-        self.assert_too_few(1, total_carried, plan, 6, 0, -1)
-        self.assert_too_few(1, red_chairs, plan, 6, 0, -1)
-        self.assert_too_few(1, lambda: list(carryings(plan, 6, 0, 0, 0)))
 
 
 class Rounds(unittest.TestCase):
@@ -310,36 +221,6 @@ class NobodyCarriesLess(unittest.TestCase):
                     found = total_carried(plan, chairs, start, 1)
                     self.assertGreaterEqual(least_of_all_ways(plan, chairs, start), found)
                     self.assertEqual(found, outcome(plan, chairs, start)[0])
-
-
-class Repeated(unittest.TestCase):
-    def test_calls_change_nothing(self):
-        plan, other = Plan(("red", 6), TURN, ("red", 7)), Plan(("blue", 2))
-        steps = plan.steps
-        first = self.all_results(plan, other)
-        with self.assertRaises(TooFewChairs):
-            total_carried(plan, 6, 6, 1)
-        with self.assertRaises(InvalidNumber):
-            total_carried(plan, 10, 6, -1)
-        self.assertEqual(self.all_results(plan, other), first)
-        self.assertEqual([plan.steps, other.steps], [steps, (("blue", 2),)])
-
-    def all_results(self, plan, other):
-        return [
-            total_carried(plan, 10, 8, 5),
-            red_chairs(plan, 10, 8, 5),
-            list(carryings(plan, 10, 8, 2, 9)),
-            summary(plan, 10),
-            first_difference(plan, other, 10),
-        ]
-
-    def test_generators_do_not_disturb_each_other(self):
-        plan = Plan(("red", 6), ("blue", 7))
-        pairs = list(zip(carryings(plan, 10, 8, 1, 4), carryings(plan, 10, 0, 1, 4)))
-        self.assertEqual(pairs, [(0, 6), (5, 3), (3, 3), (3, 3)])
-        found = list(carryings(plan, 10, 8, 1, 4))
-        found.append(100)
-        self.assertEqual(list(carryings(plan, 10, 8, 1, 4)), [0, 5, 3, 3])
 
 
 if __name__ == "__main__":

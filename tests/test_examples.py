@@ -2,9 +2,13 @@
 
 import unittest
 
+from chaircarry.chairs import best_chairs, fewest_chairs, long_run, saving, sparing_chairs
 from chaircarry.effects import carryings, first_difference, red_chairs, summary, total_carried
-from chaircarry.errors import InvalidPlan, TooFewChairs
+from chaircarry.errors import Contradiction, InvalidEvidence, InvalidPlan, TooFewChairs
+from chaircarry.evidence import find_evidence, judge_evidence
+from chaircarry.observers import StartObserver
 from chaircarry.plans import Plan
+from chaircarry.simple import simple_plan
 
 
 class PlanExamples(unittest.TestCase):
@@ -48,6 +52,54 @@ class EffectExamples(unittest.TestCase):
         plan = Plan(("red", 6))
         self.assertEqual(first_difference(plan, Plan(("red", 6), ("blue", 2)), 10), 9)
         self.assertIsNone(first_difference(plan, plan, 10))
+
+
+class EvidenceExamples(unittest.TestCase):
+    def setUp(self):
+        self.plan = Plan(("red", 6), ("blue", 7))
+
+    def test_find_and_judge(self):
+        plan = self.plan
+        found = [find_evidence(plan, 10, 0), judge_evidence(plan, 10, 0, [0, 1]), find_evidence(plan, 10, 8)]
+        self.assertEqual(found, [[0, 1], 9, [1]])
+
+    def test_wrong_order(self):
+        with self.assertRaises(InvalidEvidence) as caught:
+            judge_evidence(self.plan, 10, 0, [1, 0])
+        self.assertEqual(caught.exception.index, 1)
+
+
+class SimpleExamples(unittest.TestCase):
+    def test_simple_plan(self):
+        plan = Plan(("red", 4), ("red", 6), ("blue", 2), ("blue", 7))
+        self.assertEqual(len(simple_plan(plan, 10).steps), 2)
+
+
+class ChairsExamples(unittest.TestCase):
+    def setUp(self):
+        self.plan, self.turning = Plan(("red", 6), ("blue", 7)), Plan(("red", 6), ("turn",))
+
+    def test_long_run_and_saving(self):
+        found = [long_run(self.plan, 10), saving(self.plan, 10), long_run(self.turning, 10)]
+        self.assertEqual(found, [(6, 1), (2, 1), (2, 1)])
+
+    def test_fewest_and_sparing_chairs(self):
+        found = [fewest_chairs(self.plan), sparing_chairs(self.plan), sparing_chairs(self.turning)]
+        self.assertEqual(found, [7, 13, 12])
+
+    def test_best_chairs(self):
+        self.assertEqual([best_chairs(self.plan, 100, 1, 60), best_chairs(self.plan, 130, 1, 60)], [13, 7])
+
+
+class ObserverExamples(unittest.TestCase):
+    def test_what_is_seen(self):
+        observer = StartObserver(Plan(("red", 6), ("blue", 7)), 10)
+        found = [observer.see(1, 0), observer.possible_starts, observer.see(2, 5), observer.possible_starts]
+        self.assertEqual(found, [5, (6, 10), 1, (8, 8)])
+
+    def test_contradiction(self):
+        with self.assertRaises(Contradiction):
+            StartObserver(Plan(("red", 6), ("blue", 7)), 10).see(4, 2)
 
 
 if __name__ == "__main__":

@@ -1,23 +1,14 @@
 """Point 5: the effect of a plan on all starts, and the first start that tells two plans apart."""
 
-import itertools
 import unittest
 
 from chaircarry.effects import first_difference, summary
 from chaircarry.errors import InvalidNumber, TooFewChairs
 from chaircarry.plans import Plan
-from tests.simulation import end_at_first_place, fixed_source, outcome, random_plan
+from tests.simulation import all_plans, end_at_first_place, fixed_source, outcome, random_plan
 
 TURN = ("turn",)
 MOST = 10 ** 18
-
-
-def all_plans(chairs, most):
-    """Yield all plans of at most so many steps that a house can use."""
-    steps = [TURN] + [(room, need) for room in ("red", "blue") for need in range(chairs + 1)]
-    for many in range(most + 1):
-        for chosen in itertools.product(steps, repeat=many):
-            yield Plan(*chosen)
 
 
 def smallest_difference(plan, other, chairs):
