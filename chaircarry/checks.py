@@ -3,10 +3,15 @@
 from chaircarry.errors import InvalidNumber, TooFewChairs
 
 
+def is_whole(value):
+    """Tell whether a value is an integer."""
+    # Python counts True and False as integers, the package does not.
+    return isinstance(value, int) and not isinstance(value, bool)
+
+
 def is_number(value, least, most):
     """Tell whether a value is an integer from `least` to `most`."""
-    # Python counts True and False as integers, the package does not.
-    return isinstance(value, int) and not isinstance(value, bool) and least <= value <= most
+    return is_whole(value) and least <= value <= most
 
 
 def check_number(value, least, most):

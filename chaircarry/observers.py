@@ -2,9 +2,9 @@
 
 from chaircarry.carrying import few_rounds
 from chaircarry.checks import check_house, check_number
-from chaircarry.effects import allowed_range, effect_of, MAX_STEP_NUMBER
+from chaircarry.effects import MAX_STEP_NUMBER
 from chaircarry.errors import Contradiction, InvalidNumber
-from chaircarry.plans import TURN
+from chaircarry.starts import starts_that_carry
 
 
 class StartObserver:
@@ -24,7 +24,9 @@ class StartObserver:
         """Record how many chairs are carried in the step with a number, and return how many starts remain possible."""
         check_number(number, 1, MAX_STEP_NUMBER)
         check_number(count, 0, self.all_chairs)
-        low, high = starts_that_carry(self.repeated_steps, self.all_chairs, number, count)
+        rounds, skipped = divmod(number - 1, len(self.repeated_steps))
+        steps = self.repeated_steps * few_rounds(rounds) + self.repeated_steps[:skipped]
+        low, high = starts_that_carry(steps, self.all_chairs, self.repeated_steps[skipped], count)
         least, greatest = max(self.least_start, low), min(self.greatest_start, high)
         if least > greatest:
             raise Contradiction("no start explains this and all that was seen before")
@@ -41,34 +43,3 @@ class StartObserver:
     def records(self):
         """The list of all accepted observations."""
         return list(self.accepted)
-
-
-def starts_that_carry(steps, chairs, number, count):
-    """Return the least and the greatest start for which a step carries so many chairs; (1, 0) if there is none."""
-    rounds, skipped = divmod(number - 1, len(steps))
-    low, high, extra, goal, turned = effect_of(steps * few_rounds(rounds) + steps[:skipped], chairs)
-    if goal is not None:
-        low = high = goal
-    # So many chairs are, from low to high, before the step in the room that was red at first.
-    least, most = numbers_that_carry(steps[skipped], chairs, turned, count)
-    if max(least, low) > min(most, high):
-        return 1, 0
-    # All starts up to low lead to low, and all from high on lead to high.
-    least_start = least if least > low else 0
-    greatest_start = most if most < high else chairs
-    return least_start, greatest_start
-
-
-def numbers_that_carry(step, chairs, turned, count):
-    """Return from and up to which number of chairs, in the room that was red at first, a step carries so many.
-
-    If there is no such number, these are (1, 0), or numbers that no room can have.
-    """
-    if step == TURN:
-        return (0, chairs) if count == 0 else (1, 0)
-    least, most = allowed_range(step, chairs, turned)
-    if count == 0:
-        return least, most
-    # A meeting bounds the number on one side only, and `count` chairs beyond it are missing.
-    number = least - count if least > 0 else most + count
-    return number, number

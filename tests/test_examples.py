@@ -2,10 +2,19 @@
 
 import unittest
 
+from chaircarry.bookings import (
+    Alternation, Meeting, Series, Turning, format_bookings, parse_bookings, plan_of,
+)
 from chaircarry.chairs import best_chairs, fewest_chairs, long_run, saving, sparing_chairs
+from chaircarry.codes import decode_plan, encode_plan
+from chaircarry.daybooks import Daybook
 from chaircarry.effects import carryings, first_difference, red_chairs, summary, total_carried
-from chaircarry.errors import Contradiction, InvalidEvidence, InvalidPlan, TooFewChairs
+from chaircarry.errors import (
+    Contradiction, DaybookError, DecodeError, InvalidBooking, InvalidEvidence, InvalidOperation, InvalidPlan,
+    InvalidText, NotEnough, TooFewChairs,
+)
 from chaircarry.evidence import find_evidence, judge_evidence
+from chaircarry.live import House
 from chaircarry.observers import StartObserver
 from chaircarry.plans import Plan
 from chaircarry.simple import simple_plan
@@ -100,6 +109,114 @@ class ObserverExamples(unittest.TestCase):
     def test_contradiction(self):
         with self.assertRaises(Contradiction):
             StartObserver(Plan(("red", 6), ("blue", 7)), 10).see(4, 2)
+
+
+class BookingExamples(unittest.TestCase):
+    def test_wrong_room(self):
+        with self.assertRaises(InvalidBooking):
+            Meeting("green", 1)
+
+    def test_series(self):
+        series = Series("red", 6, times=3, more=-2)
+        found = [list(series.planned()), series.step_count, series.line]
+        self.assertEqual(found, [[("red", 6), ("red", 4), ("red", 2)], 3, "red 6 times 3 more -2"])
+
+    def test_plan_of(self):
+        self.assertEqual(plan_of(Meeting("red", 6), Turning()).steps, (("red", 6), ("turn",)))
+
+    def test_lines_of_point_10(self):
+        lines = [Meeting("red", 6).line, Series("blue", 6, times=3).line, Series("blue", 6, times=3, more=-2).line]
+        self.assertEqual(lines, ["red 6", "blue 6 times 3", "blue 6 times 3 more -2"])
+        self.assertEqual([Alternation(6, 7, 8).line, Turning().line], ["alternate 6 7 8", "turn"])
+
+    def test_format_bookings(self):
+        self.assertEqual(format_bookings(Alternation(6, 7), Turning()), "alternate 6 7\nturn")
+
+    def test_parse_bookings(self):
+        kinds = [booking.KIND for booking in parse_bookings("red 6 times 2\nturn")]
+        self.assertEqual(kinds, ["series", "turning"])
+        with self.assertRaises(InvalidText) as caught:
+            parse_bookings("red 06")
+        self.assertEqual(caught.exception.row, 0)
+
+
+class LiveExamples(unittest.TestCase):
+    def setUp(self):
+        self.house = House(10, red=8)
+
+    def test_house(self):
+        house = self.house
+        found = [house.red, house.blue, house.total_moved, house.is_turned, house.history]
+        self.assertEqual(found, [8, 2, 0, False, []])
+
+    def test_meet(self):
+        self.assertEqual([self.house.meet("blue", 7), self.house.red, self.house.blue], [5, 3, 7])
+
+    def test_not_enough(self):
+        with self.assertRaises(NotEnough):
+            self.house.meet("blue", 11)
+
+    def test_turn(self):
+        self.assertIsNone(self.house.turn())
+        self.assertEqual([self.house.red, self.house.is_turned], [2, True])
+
+    def test_run(self):
+        self.assertEqual(self.house.run(Plan(("red", 6), ("blue", 7)), 10 ** 18), 5999999999999999999)
+
+    def test_red_counts(self):
+        self.house.meet("blue", 7)
+        self.assertEqual(list(self.house.red_counts()), [8, 3])
+
+    def test_undo_and_redo(self):
+        house = self.house
+        house.turn()
+        self.assertEqual([house.undo(), house.undo(), house.redo(), house.red], [True, False, True, 2])
+
+    def test_apply(self):
+        self.assertEqual(self.house.apply(("meet", "blue", 7), ("turn",)), [5, None])
+
+    def test_wrong_operation(self):
+        with self.assertRaises(InvalidOperation) as caught:
+            self.house.apply(("turn",), ("jump",))
+        self.assertEqual(caught.exception.index, 1)
+
+    def test_replay(self):
+        self.assertEqual(House.replay(10, 8, ("meet", "blue", 7), ("turn",)).red, 7)
+
+
+class DaybookExamples(unittest.TestCase):
+    def setUp(self):
+        self.daybook = Daybook("chairs 10\nred 6 carried ?\nblue 7 carried 3\nred has ?")
+
+    def test_row_count(self):
+        self.assertEqual(self.daybook.row_count, 4)
+
+    def test_wrong_row(self):
+        with self.assertRaises(DaybookError) as caught:
+            Daybook("chairs 10\nred 11 carried 0")
+        self.assertEqual(caught.exception.row, 1)
+
+    def test_check(self):
+        self.assertEqual([self.daybook.check(8), self.daybook.check(4)], [2, None])
+
+    def test_filled(self):
+        self.assertEqual(self.daybook.filled(4), "chairs 10\nred 6 carried 2\nblue 7 carried 3\nred has 3")
+
+    def test_fitting_starts(self):
+        self.assertEqual(self.daybook.fitting_starts(), (0, 6))
+
+
+class CodeExamples(unittest.TestCase):
+    def test_encode_plan(self):
+        self.assertEqual(encode_plan(Plan(("red", 6), ("turn",))), [99, 2, 0, 6, 2, 120])
+
+    def test_decode_plan(self):
+        self.assertEqual(decode_plan([99, 2, 0, 6, 2, 120]).steps, (("red", 6), ("turn",)))
+
+    def test_too_many_steps(self):
+        with self.assertRaises(DecodeError) as caught:
+            decode_plan([99, 61])
+        self.assertEqual(caught.exception.offset, 1)
 
 
 if __name__ == "__main__":
