@@ -80,11 +80,10 @@ class CodeReader:
         group = self.take(0, MAX_NUMBER)
         need, factor = group % GROUP_SIZE, GROUP_SIZE
         while group >= GROUP_SIZE:
-            group = self.take(0, MAX_NUMBER)
+            # Behind other groups, only a last one can be 0: it would add nothing.
+            group = self.take(1, MAX_NUMBER)
             need += group % GROUP_SIZE * factor
             factor *= GROUP_SIZE
-        if group == 0 and factor > GROUP_SIZE:
-            raise DecodeError(offset=self.offset - 1)
         # Only a need that has been read whole, without a wrong number in it, is compared.
         if need > Plan.MAX_CHAIRS:
             raise DecodeError(offset=first)

@@ -99,7 +99,8 @@ def entry_in(line, chairs):
     words = line.split(" ")
     if words == ["turn"]:
         return Entry(words, TURN, None)
-    number = None if words[-1] == UNKNOWN else integer_in(words[-1])
+    # None stands for a number that is not known, too: it is no integer.
+    number = integer_in(words[-1])
     if words[-1] != UNKNOWN and not is_number(number, 0, Plan.MAX_CHAIRS):
         return None
     if words[0] not in ("red", "blue"):

@@ -126,6 +126,16 @@ class Reading(unittest.TestCase):
             self.assert_wrong(2, f"turn\nred 6 times 3 more -2\n{line}")
             self.assert_wrong(1, f"alternate 6 7\n{line}\n{line}\nturn")
 
+    def test_all_characters_in_a_number(self):
+        characters = [character for character in map(chr, range(1, 0x3000)) if character not in "0123456789\n"]
+        for character in characters:
+            for word in (f"{character}", f"{character}6", f"6{character}", f"1{character}6"):
+                if word != "-6":
+                    self.assert_wrong(1, f"turn\nred {word}\nturn")
+        for digit in "0123456789":
+            self.assertEqual(parse_bookings(f"red {digit}")[0].line, f"red {digit}")
+            self.assertEqual(parse_bookings(f"red 1{digit}6")[0].line, f"red 1{digit}6")
+
     def test_empty_lines(self):
         self.assert_wrong(0, "\n")
         self.assert_wrong(1, "turn\n")

@@ -117,6 +117,18 @@ class LanguageTest(unittest.TestCase):
                     attributes.add(node.attr)
         self.assertEqual(methods & attributes, set())
 
+    def test_a_generator_shares_its_name_with_no_other_function(self):
+        generators, functions = [], []
+        for name, tree in self.each_tree():
+            for node in ast.walk(tree):
+                if isinstance(node, ast.FunctionDef):
+                    functions.append(node.name)
+                    if any(isinstance(part, (ast.Yield, ast.YieldFrom)) for part in ast.walk(node)):
+                        generators.append(node.name)
+        self.assertEqual(sorted(generators), ["carryings", "planned", "red_counts"])
+        for name in generators:
+            self.assertEqual(functions.count(name), 1, name)
+
 
 if __name__ == "__main__":
     unittest.main()
